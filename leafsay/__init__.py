@@ -1,0 +1,1 @@
+"""Leafsay: what the leaves say, told up and down a tree."""
