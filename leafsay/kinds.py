@@ -6,6 +6,7 @@ from leafsay.errors import NoKind
 LIMIT = 1000000000000000000
 MOST_SIGNS = 40
 MOST_NUMS = 12
+KINDS = ("num", "text", "row")
 SIGNS = "abcdefghijklmnopqrstuvwxyz0123456789"
 
 # `pick` is in neither of these two: its kinds hang on one another.
@@ -62,6 +63,10 @@ def is_kind(kind, thing):
     if kind == "text":
         return is_text(thing)
     return kind == "row" and is_row(thing)
+
+
+def is_deed(word):
+    return word == "pick" or word in NEEDS
 
 
 def picked_kind(kinds):

@@ -3,6 +3,10 @@
 from leafsay.errors import NoKind
 from leafsay.kinds import done, made_kind
 
+# How great a term of a grammar, or one that is read, may be.
+MOST_PARTS = 30
+MOST_DEPTH = 6
+
 
 def inner_terms(term):
     if term[0] == "call":

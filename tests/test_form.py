@@ -102,6 +102,40 @@ class Code(unittest.TestCase):
             if isinstance(node.ops[0], (ast.Is, ast.IsNot)):
                 self.assertIsInstance(node.comparators[0], ast.Constant, (name, node.lineno))
 
+    def test_short_comprehensions(self):
+        for name, node in nodes_of(ast.ListComp):
+            self.assertEqual(len(node.generators), 1, (name, node.lineno))
+            self.assertLessEqual(len(node.generators[0].ifs), 1, (name, node.lineno))
+
+    def test_plain_names_in_texts(self):
+        for name, node in nodes_of(ast.FormattedValue):
+            self.assertIsInstance(node.value, ast.Name, (name, node.lineno))
+            self.assertIsNone(node.format_spec, (name, node.lineno))
+
+    def test_one_target_in_an_assignment(self):
+        for name, node in nodes_of(ast.Assign):
+            self.assertEqual(len(node.targets), 1, (name, node.lineno))
+            self.assertNotIsInstance(node.targets[0], (ast.Tuple, ast.List), (name, node.lineno))
+
+    def test_nothing_is_called_like_an_import_or_a_def_of_its_file(self):
+        for name, tree in trees():
+            taken = {one.name for node in ast.walk(tree) if isinstance(node, ast.ImportFrom) for one in node.names}
+            taken |= {node.name for node in tree.body if isinstance(node, (ast.FunctionDef, ast.ClassDef))}
+            for node in ast.walk(tree):
+                if isinstance(node, ast.arg):
+                    self.assertNotIn(node.arg, taken, (name, node.lineno))
+                if isinstance(node, ast.Name) and isinstance(node.ctx, ast.Store):
+                    self.assertNotIn(node.id, taken, (name, node.lineno))
+
+    def test_no_two_files_draw_from_one_another(self):
+        drawn = {f"leafsay.{name[:-3]}": [node.module for node in tree.body if isinstance(node, ast.ImportFrom)]
+                 for name, tree in trees()}
+        while drawn:
+            free = [name for name in drawn if not any(other in drawn for other in drawn[name])]
+            self.assertTrue(free, drawn)
+            for name in free:
+                drawn.pop(name)
+
     def test_texts_by_themselves_stand_only_at_a_files_top(self):
         for name, tree in trees():
             self.assertIsNotNone(ast.get_docstring(tree), name)

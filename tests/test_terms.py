@@ -3,40 +3,13 @@
 import copy
 import unittest
 
+from helper import MARK, ROW, TOP, balanced, call, chain, num, of, text
 from leafsay.errors import LeafError, NoKind
 from leafsay.kinds import is_kind
 from leafsay.terms import depth, kind_of, named, parts, worth
 
-TOP = 10 ** 18 - 1
-ROW = ("row",)
-MARK = ("mark",)
 KINDS = {(0, "n"): "num", (1, "n"): "num", (2, "t"): "text", (3, "r"): "row", (0, "longname"): "text"}
 KNOWN = {(0, "n"): 7, (1, "n"): 0, (2, "t"): "abc", (3, "r"): (4, 5, 6), (0, "longname"): "z9"}
-
-
-def num(number):
-    return ("num", number)
-
-
-def text(signs):
-    return ("text", signs)
-
-
-def of(k, name):
-    return ("of", k, name)
-
-
-def call(deed, *terms):
-    return ("call", deed, terms)
-
-
-def chain(deed, levels, lowest):
-    term = lowest
-    for level in range(levels - 1):
-        term = call(deed, term, num(1))
-    return term
-
-
 LEAVES = (num(0), num(TOP), text(""), text("a1"), ROW, MARK, of(0, "n"), of(3, "r"))
 # The names of deeds and sorts, and texts that look like terms, must not be taken for more than they are.
 NESTED = call(
@@ -318,7 +291,7 @@ class GreatTerms(unittest.TestCase):
 
     def test_two_hundred_parts(self):
         names = [(k, chr(97 + one) + chr(97 + other)) for one in range(5) for other in range(5) for k in range(4)]
-        term = call("show", self.balanced([of(k, name) for k, name in names]))
+        term = call("show", balanced([of(k, name) for k, name in names]))
         self.assertEqual(parts(term), 200)
         self.assertEqual(depth(term), 9)
         self.assertEqual(named(term), names)
@@ -327,7 +300,7 @@ class GreatTerms(unittest.TestCase):
 
     def test_two_hundred_parts_and_thirty_deep(self):
         deep = chain("add", 29, of(1, "n"))
-        rest = self.balanced([MARK] * 71)
+        rest = balanced([MARK] * 71)
         term = call("pick", of(0, "n"), deep, rest)
         self.assertEqual(parts(term), 200)
         self.assertEqual(depth(term), 30)
@@ -335,12 +308,6 @@ class GreatTerms(unittest.TestCase):
         self.assertEqual(kind_of(term, KINDS), "num")
         self.assertEqual(worth(term, KNOWN, 2), 28)
         self.assertEqual(worth(term, {(0, "n"): 0, (1, "n"): 9}, 2), 142)
-
-    def balanced(self, terms):
-        if len(terms) == 1:
-            return terms[0]
-        half = len(terms) // 2
-        return call("add", self.balanced(terms[:half]), self.balanced(terms[half:]))
 
 
 class TermsAreLeft(unittest.TestCase):
