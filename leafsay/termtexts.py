@@ -3,10 +3,10 @@
 from leafsay.errors import NoText, TooGreat
 from leafsay.kinds import is_deed, is_kind
 from leafsay.names import is_number, read_value, show_value
+from leafsay.nests import deepest, nest_rows, taken_off
 from leafsay.terms import MOST_DEPTH, MOST_PARTS
 
 MOST_TERMS = 3
-STOPS = "(,)"
 QUOTE = '"'
 
 
@@ -44,70 +44,21 @@ def read_leaf(word):
     return ("of", pair[0], pair[1])
 
 
-def pieces(text):
-    # No leaf and no deed has a stop in it, so the stops alone part what is written.
-    found = []
-    start = 0
-    for place, sign in enumerate(text):
-        if sign in STOPS:
-            found.append((text[start:place], sign))
-            start = place + 1
-    found.append((text[start:], ""))
-    return found
-
-
-# Keeps the open calls in a list: what is written may be far deeper than functions may call one another.
-class TermReader:
-    def __init__(self):
-        self.open_calls = []
-        # The term that was read last, till its place is known.
-        self.ready = None
-        self.part_count = 0
-        self.deepest = 0
-
-    def begin_call(self, deed):
-        if self.ready is not None or not is_deed(deed):
-            raise NoText(f"no call begins with {deed!r} here")
-        self.open_calls.append((deed, []))
-        self.part_count += 1
-
-    def end_term(self, word):
-        if self.ready is None:
-            self.ready = read_leaf(word)
-            self.part_count += 1
-            self.deepest = max(self.deepest, len(self.open_calls) + 1)
-        elif word != "":
-            raise NoText(f"{word!r} stands behind a closed call")
-
-    def put_into_call(self):
-        if not self.open_calls:
-            raise NoText("a comma or a closing bracket stands in no call")
-        self.open_calls[-1][1].append(self.ready)
-        self.ready = None
-
-    def close_call(self):
-        call = self.open_calls.pop()
-        if len(call[1]) > MOST_TERMS:
-            raise NoText(f"a call has more than {MOST_TERMS} terms")
-        self.ready = ("call", call[0], tuple(call[1]))
-
-    def whole_term(self):
-        if self.open_calls:
-            raise NoText("a call is not closed")
-        if self.part_count > MOST_PARTS or self.deepest > MOST_DEPTH:
-            raise TooGreat(f"a term has more than {MOST_PARTS} parts or is deeper than {MOST_DEPTH}")
-        return self.ready
+def made_call(deed, terms):
+    if not is_deed(deed):
+        raise NoText(f"there is no deed {deed!r}")
+    if len(terms) > MOST_TERMS:
+        raise NoText(f"a call has more than {MOST_TERMS} terms")
+    return ("call", deed, terms)
 
 
 def read_term(text):
-    reader = TermReader()
-    for word, stop in pieces(text):
-        if stop == "(":
-            reader.begin_call(word)
-        else:
-            reader.end_term(word)
-            if stop != "":
-                reader.put_into_call()
-            if stop == ")":
-                reader.close_call()
-    return reader.whole_term()
+    rows = nest_rows(text, ",")
+    ready = []
+    for word, count, level in rows:
+        inner = taken_off(ready, count)
+        ready.append(made_call(word, inner) if inner else read_leaf(word))
+    # Behind all else: only what is a term is refused for being too great.
+    if len(rows) > MOST_PARTS or deepest(rows) > MOST_DEPTH:
+        raise TooGreat(f"a term has more than {MOST_PARTS} parts or is deeper than {MOST_DEPTH}")
+    return ready[0]

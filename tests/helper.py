@@ -1,4 +1,4 @@
-"""What several test files need: terms made in short, and a case that holds a refusal to its class."""
+"""What several test files need: terms and trees made in short, and a case that holds a refusal to its class."""
 
 import unittest
 
@@ -41,6 +41,41 @@ def balanced(terms):
     return call("add", balanced(terms[:half]), balanced(terms[half:]))
 
 
+def node(form, *branches, mark=0):
+    return (form, mark, branches)
+
+
+def high(form, levels):
+    tree = node(form)
+    for level in range(levels - 1):
+        tree = node(form, tree)
+    return tree
+
+
+def some_tree(source, size, forms, marks=(0,)):
+    """A tree of just so many nodes, of any shape."""
+    branches, left = [], size - 1
+    while left:
+        part = source.randint(1, left)
+        branches.append(some_tree(source, part, forms, marks))
+        left -= part
+    return node(source.choice(forms), *branches, mark=source.choice(marks))
+
+
+def hanging(graph):
+    """For each node those on which it hangs, found by going on till nothing more comes of it."""
+    found = {node: set(graph[node]) for node in graph}
+    growing = True
+    while growing:
+        growing = False
+        for node in graph:
+            more = set().union(*[found[lower] for lower in found[node]]) - found[node]
+            if more:
+                found[node] |= more
+                growing = True
+    return found
+
+
 class Case(unittest.TestCase):
     def refused(self, refusal, function, *handed):
         with self.subTest(refusal=refusal.__name__, handed=handed):
@@ -50,8 +85,21 @@ class Case(unittest.TestCase):
             found = [name for name in REFUSALS if isinstance(taken.exception, getattr(errors, name))]
             self.assertEqual(found, [refusal.__name__])
 
+    # For what is handed in so great that nobody wants to see it in a report.
+    def refused_shortly(self, refusal, function, *handed):
+        with self.assertRaises(errors.LeafError) as taken:
+            function(*handed)
+        self.assertIs(type(taken.exception), refusal)
+
     def made_of_tuples(self, thing):
         self.assertIn(type(thing), (tuple, str, int), thing)
         if type(thing) is tuple:
             for inner in thing:
                 self.made_of_tuples(inner)
+
+    def ring_held(self, graph, ring):
+        self.assertIs(type(ring), list)
+        self.assertTrue(ring)
+        self.assertEqual(len(set(ring)), len(ring))
+        for place, node in enumerate(ring):
+            self.assertIn(ring[(place + 1) % len(ring)], graph[node])

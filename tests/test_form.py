@@ -97,6 +97,33 @@ class Code(unittest.TestCase):
             if isinstance(node.func, ast.Attribute):
                 self.assertIn(node.func.attr, METHODS | own, (name, node.lineno))
 
+    def test_no_name_is_a_method_and_a_value(self):
+        methods = {one.name for name, node in nodes_of(ast.ClassDef) for one in node.body
+                   if isinstance(one, ast.FunctionDef)}
+        for name, node in nodes_of(ast.Attribute):
+            if isinstance(node.ctx, ast.Store):
+                self.assertNotIn(node.attr, methods, (name, node.lineno))
+            self.assertNotIn(node.attr, ("args", "format", "sort", "open", "input", "mro"), (name, node.lineno))
+
+    def test_sets_are_made_and_asked_on_the_spot(self):
+        for name, tree in trees():
+            within = {id(inner) for node in ast.walk(tree)
+                      for inner in (node.args if isinstance(node, ast.Call) and isinstance(node.func, ast.Name)
+                                    and node.func.id in ("len", "sorted") else
+                                    [node.left] + node.comparators if isinstance(node, ast.Compare) else [])}
+            for node in ast.walk(tree):
+                if isinstance(node, ast.Call) and isinstance(node.func, ast.Name) and node.func.id in ("set", "frozenset"):
+                    self.assertIn(id(node), within, (name, node.lineno))
+
+    def test_what_is_walked_is_not_kept(self):
+        for name, tree in trees():
+            for node in ast.walk(tree):
+                if isinstance(node, (ast.Assign, ast.Return)) and isinstance(node.value, ast.Call):
+                    made_by = node.value.func
+                    called = made_by.id if isinstance(made_by, ast.Name) else getattr(made_by, "attr", "")
+                    self.assertNotIn(called, ("zip", "enumerate", "reversed", "range", "items", "keys", "values"),
+                                     (name, node.lineno))
+
     def test_is_stands_beside_plain_words_alone(self):
         for name, node in nodes_of(ast.Compare):
             if isinstance(node.ops[0], (ast.Is, ast.IsNot)):

@@ -222,24 +222,19 @@ class Great(Read):
         levels = 16665
         deep = "show(" * levels + "12345" + ")" * levels
         self.assertLessEqual(len(deep), 100000)
-        self.refused_shortly(TooGreat, deep)
-        self.refused_shortly(TooGreat, "pick(" * 9000 + "1" + ",2,3)" * 9000)
+        self.refused_shortly(TooGreat, read_term, deep)
+        self.refused_shortly(TooGreat, read_term, "pick(" * 9000 + "1" + ",2,3)" * 9000)
         wide = "[]"
         while 2 * len(wide) + 7 <= 100000:
             wide = f"link({wide},{wide})"
-        self.refused_shortly(TooGreat, wide)
-
-    def refused_shortly(self, refusal, written):
-        with self.assertRaises(LeafError) as taken:
-            read_term(written)
-        self.assertIs(type(taken.exception), refusal)
+        self.refused_shortly(TooGreat, read_term, wide)
 
     def test_long_texts_that_write_no_term(self):
         for written in (
             "1" * 100000, "0" * 100000, "a" * 100000, ")" * 100000, "," * 100000, "[]" * 50000, " " * 100000,
             '"' + "a" * 99998 + '"', '"' * 100000, "0." + "a" * 99998,
         ):
-            self.refused_shortly(NoText, written)
+            self.refused_shortly(NoText, read_term, written)
         for written in (
             "(" * 100000, "add(" * 25000, "add(1," * 16000, "show(" * 10000 + "1" + ")" * 9999, "add(" + "1," * 49997 + "1)",
         ):
