@@ -76,6 +76,15 @@ def hanging(graph):
     return found
 
 
+def most_open(written):
+    """How many brackets are open at once, at the place where there are most."""
+    nested, most = 0, 0
+    for sign in written:
+        nested += {"(": 1, ")": -1}.get(sign, 0)
+        most = max(most, nested)
+    return most
+
+
 class Case(unittest.TestCase):
     def refused(self, refusal, function, *handed):
         with self.subTest(refusal=refusal.__name__, handed=handed):
@@ -103,3 +112,16 @@ class Case(unittest.TestCase):
         self.assertEqual(len(set(ring)), len(ring))
         for place, node in enumerate(ring):
             self.assertIn(ring[(place + 1) % len(ring)], graph[node])
+
+
+class WrittenCase(Case):
+    # A class under this one tells how its things are written and read: show, read_text.
+    def read(self, thing, written):
+        with self.subTest(written):
+            self.assertEqual(self.show(thing), written)
+            answer = self.read_text(written)
+            self.assertEqual(answer, thing)
+            self.made_of_tuples(answer)
+
+    def there_and_back(self, thing):
+        self.read(thing, self.show(thing))

@@ -5,7 +5,7 @@ import random
 import re
 import unittest
 
-from helper import MARK, ROW, TOP, Case, balanced, call, chain, num, of, text
+from helper import MARK, ROW, TOP, Case, WrittenCase, balanced, call, chain, num, of, text
 from leafsay.errors import LeafError, NoText, TooGreat
 from leafsay.grammars import let_by
 from leafsay.grammartexts import read_grammar, show_grammar
@@ -88,16 +88,9 @@ def is_written(told):
     return re.fullmatch("s*(fr*)*", letters) is not None
 
 
-class There(Case):
-    def read(self, grammar, written):
-        with self.subTest(written):
-            self.assertEqual(show_grammar(grammar), written)
-            answer = read_grammar(written)
-            self.assertEqual(answer, grammar)
-            self.made_of_tuples(answer)
-
-    def there_and_back(self, grammar):
-        self.read(grammar, show_grammar(grammar))
+class There(WrittenCase):
+    show = staticmethod(show_grammar)
+    read_text = staticmethod(read_grammar)
 
 
 class Ordinary(There):

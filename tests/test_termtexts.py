@@ -5,7 +5,7 @@ import re
 import string
 import unittest
 
-from helper import DEEDS, MARK, ROW, TOP, Case, balanced, call, chain, num, of, text
+from helper import DEEDS, MARK, ROW, TOP, Case, WrittenCase, balanced, call, chain, most_open, num, of, text
 from leafsay.errors import LeafError, NoText, TooGreat
 from leafsay.terms import depth, parts
 from leafsay.termtexts import read_term, show_term
@@ -65,11 +65,7 @@ def expected(written):
 
 
 def may_be_either(written):
-    nested, most = 0, 0
-    for sign in written:
-        nested += {"(": 1, ")": -1}.get(sign, 0)
-        most = max(most, nested)
-    return most >= 6 or len(re.findall(r"[a-z0-9.\"\[\]]+", written)) >= 30
+    return most_open(written) >= 6 or len(re.findall(r"[a-z0-9.\"\[\]]+", written)) >= 30
 
 
 def some_term(source, levels):
@@ -87,16 +83,9 @@ def some_term(source, levels):
     return call(source.choice(DEEDS), *[some_term(source, levels - 1) for place in range(source.randrange(1, 4))])
 
 
-class Read(Case):
-    def read(self, term, written):
-        with self.subTest(written):
-            self.assertEqual(show_term(term), written)
-            answer = read_term(written)
-            self.assertEqual(answer, term)
-            self.made_of_tuples(answer)
-
-    def there_and_back(self, term):
-        self.read(term, show_term(term))
+class Read(WrittenCase):
+    show = staticmethod(show_term)
+    read_text = staticmethod(read_term)
 
 
 class Ordinary(Read):

@@ -5,7 +5,7 @@ import re
 import string
 import unittest
 
-from helper import TOP, Case, high, node, some_tree
+from helper import TOP, Case, WrittenCase, high, most_open, node, some_tree
 from leafsay.errors import LeafError, NoText, TooGreat
 from leafsay.treetexts import read_tree, show_tree
 
@@ -63,23 +63,12 @@ def expected(written):
 
 
 def may_be_either(written):
-    nested, most = 0, 0
-    for sign in written:
-        nested += {"(": 1, ")": -1}.get(sign, 0)
-        most = max(most, nested)
-    return most >= 20 or len(re.findall(r"[a-z0-9:]+", written)) >= 60
+    return most_open(written) >= 20 or len(re.findall(r"[a-z0-9:]+", written)) >= 60
 
 
-class Read(Case):
-    def read(self, tree, written):
-        with self.subTest(written):
-            self.assertEqual(show_tree(tree), written)
-            answer = read_tree(written)
-            self.assertEqual(answer, tree)
-            self.made_of_tuples(answer)
-
-    def there_and_back(self, tree):
-        self.read(tree, show_tree(tree))
+class Read(WrittenCase):
+    show = staticmethod(show_tree)
+    read_text = staticmethod(read_tree)
 
 
 class Ordinary(Read):
