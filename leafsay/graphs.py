@@ -32,6 +32,12 @@ def order_of(graph):
     return list(settled)
 
 
+def order_from(graph, node):
+    settled = {}
+    settle(graph, node, {}, settled)
+    return list(settled)
+
+
 def ring_in(graph):
     try:
         order_of(graph)

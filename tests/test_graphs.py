@@ -75,15 +75,6 @@ def chain(length, backwards, last):
 
 
 class Held(Case):
-    def order_held(self, graph, order):
-        self.assertIs(type(order), list)
-        self.assertEqual(len(order), len(graph))
-        self.assertEqual(set(order), set(graph))
-        place = {node: number for number, node in enumerate(order)}
-        for node in graph:
-            for lower in graph[node]:
-                self.assertLess(place[lower], place[node])
-
     def way_held(self, graph, one, other, way):
         self.assertIs(type(way), list)
         self.assertGreaterEqual(len(way), 2)

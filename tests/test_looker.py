@@ -5,63 +5,15 @@ import itertools
 import random
 import unittest
 
-from helper import Case, call, hanging, node, num, of
+from helper import (
+    CLEAR, FAR, KNOTTED, LOOP, LOOP_OF_BOTH, UNKNOTTED, WIDE, Case, carried, grammar_of, hanging, has_ring, named_in, node,
+    small_trees, some_grammar, tree_graph,
+)
 from leafsay.errors import LeafError, Ring, TooGreat
-from leafsay.grammars import form_row, let_by, sign_row
-from leafsay.grammartexts import read_grammar
+from leafsay.grammars import form_row
 from leafsay.looker import grown, look, reach_of
 from leafsay.trees import branch_at, paths, sign_of
 
-
-def grammar_of(*lines):
-    return let_by(read_grammar("\n".join(lines)))
-
-
-# Names that stand in another order than that of their letters; no, one and several branches.
-WIDE = grammar_of(
-    "sign s down q:num down b:num up z:num up a:num",
-    "sign one down d:text up u:text",
-    "sign bare",
-    "sign only down d:num",
-    "form all s",
-    "0.a = add(0.b,0.q)",
-    "0.z = add(0.b,0.q)",
-    "form none s",
-    "0.z = mark",
-    "0.a = 7",
-    "form cross s",
-    "0.z = 0.b",
-    "0.a = 0.q",
-    "form through s s",
-    "1.b = 0.b",
-    "1.q = 0.q",
-    "0.z = 1.z",
-    "0.a = 1.a",
-    "form turn s s one",
-    "0.z = size(2.u)",
-    "0.a = mul(1.z,0.q)",
-    "1.q = 3",
-    "1.b = 0.q",
-    '2.d = glue(show(0.b),"x")',
-    "form back s s",
-    "1.q = 1.z",
-    "1.b = 1.a",
-    "0.a = 1.a",
-    "0.z = 1.z",
-    "form side one s s bare",
-    "0.u = show(1.a)",
-    "1.q = 2.a",
-    "1.b = 2.z",
-    "2.q = size(0.d)",
-    "2.b = 0",
-    "form up one one",
-    "0.u = 1.u",
-    "1.d = 0.u",
-    "form told only s",
-    "1.q = 0.d",
-    "1.b = 1.z",
-    "form empty bare",
-)
 ALL = (("q", "z"), ("q", "a"), ("b", "z"), ("b", "a"))
 REACHES = (
     ("all", [], ALL),
@@ -95,42 +47,6 @@ RINGS = (
     ("told", [(("b", "z"),)]),
 )
 
-LOOP = grammar_of("sign s up u:num", "form f s", "0.u = 0.u")
-LOOP_OF_BOTH = grammar_of("sign s up u:num up v:num", "form f s", "0.u = add(1,0.v)", "0.v = 0.u")
-# Each of the two leaves is harmless in the form `tie`; a leaf that has the reaches of both is not.
-KNOT = (
-    "sign r up w:num",
-    "sign s down a:num down b:num up x:num up y:num",
-    "form tie r s",
-    "1.a = 1.y",
-    "1.b = 1.x",
-    "0.w = add(1.x,1.y)",
-    "form l s",
-    "0.x = 0.a",
-    "0.y = 0",
-    "form m s",
-    "0.y = 0.b",
-    "0.x = 0",
-)
-UNKNOTTED = grammar_of(*KNOT)
-KNOTTED = grammar_of(*KNOT, "form both s", "0.x = 0.a", "0.y = 0.b")
-# A ring comes only of a leaf, a form above it that changes its values about, and one at the top.
-FAR = grammar_of(
-    "sign r",
-    "sign s down a:num down b:num up x:num up y:num",
-    "form top r s",
-    "1.a = 0",
-    "1.b = 1.y",
-    "form turn s s",
-    "0.x = 1.y",
-    "0.y = 1.x",
-    "1.a = 0.b",
-    "1.b = 0.a",
-    "form leaf s",
-    "0.x = 0.a",
-    "0.y = 0",
-)
-CLEAR = (WIDE[0], tuple(form for form in WIDE[1] if form[0] not in ("back", "up", "told")))
 NO_FORMS = grammar_of("sign s down a:num up x:num", "sign t")
 # There is no tree of `t`, so none of `f`, which would have a ring.
 NO_TREES = grammar_of(
@@ -155,17 +71,6 @@ LADDER = grammar_of(*ladder(1))
 BROAD_LADDER = grammar_of(*ladder(3))
 
 
-def named_in(term):
-    if term[0] == "of":
-        return {term[1:]}
-    return set().union(*[named_in(inner) for inner in term[2]]) if term[0] == "call" else set()
-
-
-def carried(grammar, sign):
-    name, downs, ups = sign_row(grammar, sign)
-    return [down for down, kind in downs], [up for up, kind in ups]
-
-
 def form_graph(grammar, form, reaches):
     graph = {}
     for k, sign in enumerate((form[1],) + form[2]):
@@ -179,26 +84,6 @@ def form_graph(grammar, form, reaches):
     return graph
 
 
-def tree_graph(grammar, tree):
-    """Each spot with those that it needs: an up by its node's form, a down by the form right above."""
-    graph = {}
-    for path in paths(tree):
-        form = form_row(grammar, branch_at(tree, path)[0])
-        for name in itertools.chain(*carried(grammar, form[1])):
-            graph.setdefault((path, name), set())
-        for k, name, term in form[3]:
-            graph[self_or_branch(path, k), name] = {(self_or_branch(path, j), other) for j, other in named_in(term)}
-    return graph
-
-
-def self_or_branch(path, k):
-    return path if k == 0 else path + (k,)
-
-
-def has_ring(graph):
-    return any(one in found for one, found in hanging(graph).items())
-
-
 def pairs_in(grammar, sign, graph, root):
     found = hanging(graph)
     downs, ups = carried(grammar, sign)
@@ -207,43 +92,6 @@ def pairs_in(grammar, sign, graph, root):
 
 def some_reach(source, grammar, sign):
     return tuple(pair for pair in itertools.product(*carried(grammar, sign)) if source.random() < 0.4)
-
-
-def some_term(source, values):
-    term = num(source.randrange(3))
-    for value in source.sample(values, min(len(values), source.choice((0, 0, 1, 1, 1, 2)))):
-        term = call("add", of(*value), term) if source.random() < 0.5 else of(*value)
-    return term
-
-
-def some_grammar(source):
-    """Rings are to be neither rare nor the rule: a branch's downs name its own ups only now and then."""
-    signs = []
-    for name in "rst"[:source.randint(1, 3)]:
-        downs = tuple((down, "num") for down in "ba"[:source.randint(0, 2)])
-        signs.append((name, downs, tuple((up, "num") for up in "yx"[:source.randint(0, 2)])))
-    grammar = (tuple(signs), ())
-    names = [sign[0] for sign in signs]
-    forms = []
-    for number in range(source.randint(1, 7)):
-        branches = tuple(source.choice(names) for k in range(source.choice((0, 0, 1, 1, 2, 3)) if number else 0))
-        forms.append(some_form(source, grammar, ("abcdefg"[number], source.choice(names), branches)))
-    return let_by((grammar[0], tuple(forms)))
-
-
-def some_form(source, grammar, form):
-    odd = source.random() < 0.4
-    rules = []
-    for k, sign in enumerate(form[1:2] + form[2]):
-        downs, ups = carried(grammar, sign)
-        for name in downs if k else ups:
-            values = [(0, down) for down in carried(grammar, form[1])[0]]
-            for j, other in enumerate(form[2], start=1):
-                values += [(j, up) for up in carried(grammar, other)[1] if k == 0 or j < k or odd]
-            if odd:
-                values += [(0, up) for up in carried(grammar, form[1])[1] if (k, name) != (0, up)]
-            rules.append((k, name, some_term(source, values)))
-    return form + (tuple(source.sample(rules, len(rules))),)
 
 
 def some_paper(source, grammar, most):
@@ -260,21 +108,6 @@ def some_paper(source, grammar, most):
             if not has_ring(graph) and row[:2] not in [other[:2] for other in rows]:
                 rows.append(row)
     return rows
-
-
-def small_trees(grammar, most):
-    """Trees by their sign, of up to so many nodes; not all of them, where there are very many."""
-    by_size = {}
-    for size in range(1, most + 1):
-        by_size[size] = []
-        for form in grammar[1]:
-            for sizes in itertools.product(range(1, size), repeat=len(form[2])):
-                if sum(sizes) == size - 1:
-                    options = [[tree for sign, tree in by_size[part] if sign == wanted]
-                               for part, wanted in zip(sizes, form[2])]
-                    found = itertools.islice(itertools.product(*options), 40)
-                    by_size[size] += [(form[1], node(form[0], *branches)) for branches in found]
-    return [pair for size in by_size for pair in by_size[size]]
 
 
 class Held(Case):

@@ -3,7 +3,7 @@
 import random
 import unittest
 
-from helper import Case, high, node, some_tree
+from helper import VERY_GREAT, Case, high, node, some_tree
 from leafsay.errors import NoPlace, NoTree, TooGreat
 from leafsay.grammars import let_by
 from leafsay.grammartexts import read_grammar
@@ -15,7 +15,6 @@ BROAD = node("a", *[node("b", mark=mark) for mark in range(1, 13)])
 # Each node bears a name of its own.
 MIXED = node("a", node("b", node("c"), node("d", node("e"), node("f"), node("g"))), node("h"), node("i", node("j")), mark=9)
 TREES = (LEAF, CHAIN, BROAD, MIXED)
-VERY_GREAT = (10 ** 18, 2 ** 64, 10 ** 100, 10 ** 5000, -1, -2, -10 ** 18, -10 ** 5000)
 
 GRAMMAR = let_by(read_grammar("""sign top
 sign mid up text:text
